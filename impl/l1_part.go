@@ -2,17 +2,19 @@ package impl
 
 import "strings"
 
-const PtEmpty = 0
-const PtLeft = 1
-const PtRight = 2
-const PtFlip = 3
-const PtCross = 4
-const PtStop = 5
-const PtGear = 6
-const PtCog = 7
+const (
+	PtEmpty = iota
+	PtLeft
+	PtRight
+	PtFlip
+	PtCross
+	PtStop
+	PtGear
+	PtCog
 
-// kindCount is the number of kinds, and so of the numbers that CountKinds returns.
-const kindCount = 8
+	// kindCount is the number of kinds, and so of the numbers that CountKinds returns.
+	kindCount
+)
 
 // maxCells is the maximum number of cells of a list.
 const maxCells = 90
