@@ -50,15 +50,20 @@ func forBoards(check func(b impl.Board, lines []string)) {
 	}
 }
 
-// checkBoard checks a board by its lines, without the program's own texts.
-func checkBoard(t *testing.T, name string, b impl.Board, ok bool, lines []string) {
-	t.Helper()
-	want := impl.Board{Rows: len(lines), Columns: len(lines[0])}
+// boardWith returns the board of lines, without the program's own texts.
+func boardWith(lines ...string) impl.Board {
+	b := impl.Board{Rows: len(lines), Columns: len(lines[0])}
 	for _, letter := range strings.Join(lines, "") {
 		i := slices.IndexFunc(knownCells, func(k knownCell) bool { return k.letter == string(letter) })
-		want.Cells = append(want.Cells, knownCells[i].cell)
+		b.Cells = append(b.Cells, knownCells[i].cell)
 	}
-	if !ok || !sameBoards(b, want) {
+	return b
+}
+
+// checkBoard checks a board by its lines.
+func checkBoard(t *testing.T, name string, b impl.Board, ok bool, lines []string) {
+	t.Helper()
+	if !ok || !sameBoards(b, boardWith(lines...)) {
 		t.Errorf("%s = %v, %v; want the lines %q", name, b, ok, lines)
 	}
 }
